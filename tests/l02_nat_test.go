@@ -507,9 +507,13 @@ func checkZeros(t *testing.T, a []int) {
 	}
 }
 
-// natPairs lists the functions of two nats that return one.
+// natPairs lists the functions of two nats that return nats, of this chapter and the next one; NatDiv stands there for each of its results.
 func natPairs() map[string]func([]int, []int) []int {
-	return map[string]func([]int, []int) []int{"NatAdd": impl.NatAdd, "NatSub": impl.NatSub, "NatMul": impl.NatMul}
+	return map[string]func([]int, []int) []int{
+		"NatAdd": impl.NatAdd, "NatSub": impl.NatSub, "NatMul": impl.NatMul, "NatGcd": impl.NatGcd,
+		"quotient of NatDiv": func(a []int, b []int) []int { quotient, _ := impl.NatDiv(a, b); return quotient },
+		"rest of NatDiv":     func(a []int, b []int) []int { _, rest := impl.NatDiv(a, b); return rest },
+	}
 }
 
 // An argument that is not a nat gives zero values, beside whichever other argument.
