@@ -259,9 +259,10 @@ func TestCurEveryText(t *testing.T) {
 		if impl.CurKnown(code) {
 			known++
 		}
-		if slices.Contains(strings.Fields(curOrder), code) != impl.CurKnown(code) || (impl.CurNumber(code) != "") != impl.CurKnown(code) || impl.CurOf(code) != "" {
-			t.Errorf("%q: CurKnown %v, CurNumber %q, CurOf %q", code, impl.CurKnown(code), impl.CurNumber(code), impl.CurOf(code))
+		if slices.Contains(strings.Fields(curOrder), code) != impl.CurKnown(code) {
+			t.Errorf("CurKnown(%q) = %v", code, impl.CurKnown(code))
 		}
+		checkAnswers(t, code, curAnswers(code))
 	}
 	if known != 20 {
 		t.Errorf("%d codes are known", known)
