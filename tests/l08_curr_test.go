@@ -2,9 +2,13 @@ package tests
 
 import (
 	"fmt"
+	"go/ast"
+	"go/parser"
+	"go/token"
 	"math/rand/v2"
 	"os"
 	"os/exec"
+	"path/filepath"
 	"slices"
 	"strconv"
 	"strings"
@@ -384,4 +388,73 @@ func checkFirstCall(t *testing.T, name string, arg string) {
 		checkAnswers(t, row.code, curAnswers(row.code))
 	}
 	checkAnswers(t, arg, want)
+}
+
+// usedNames lists, for every function of the program (its file and its name), the names that stand in its body.
+func usedNames(t *testing.T) map[[2]string][]string {
+	t.Helper()
+	files, err := filepath.Glob("../impl/*.go")
+	if err != nil || len(files) == 0 {
+		t.Fatalf("the program was not found: %v", err)
+	}
+	used := map[[2]string][]string{}
+	for _, file := range files {
+		parsed, err := parser.ParseFile(token.NewFileSet(), file, nil, parser.SkipObjectResolution)
+		if err != nil {
+			t.Fatal(err)
+		}
+		for _, declared := range parsed.Decls {
+			if f, ok := declared.(*ast.FuncDecl); ok {
+				key := [2]string{filepath.Base(file), f.Name.Name}
+				used[key] = append(used[key], namesIn(f)...)
+			}
+		}
+	}
+	return used
+}
+
+func namesIn(f *ast.FuncDecl) []string {
+	if f.Body == nil {
+		return nil
+	}
+	var names []string
+	ast.Inspect(f.Body, func(n ast.Node) bool {
+		if name, ok := n.(*ast.Ident); ok {
+			names = append(names, name.Name)
+		}
+		return true
+	})
+	return names
+}
+
+// comingThrough lists the functions that come to a name, by themselves or through others. It goes by names alone, so it may list too many, but none is left out.
+func comingThrough(t *testing.T, name string) [][2]string {
+	t.Helper()
+	used, reached := usedNames(t), []string{name}
+	var found [][2]string
+	for i := 0; i < len(reached); i++ {
+		for key, names := range used {
+			if slices.Contains(names, reached[i]) && !slices.Contains(found, key) {
+				found = append(found, key)
+				reached = append(reached, key[1])
+			}
+		}
+	}
+	return found
+}
+
+// The index is read by an exported function of its own chapter, and no function of another chapter comes through it.
+func TestCurIndexStaysInItsChapter(t *testing.T) {
+	exported := 0
+	for _, key := range comingThrough(t, "byCode") {
+		if key[0] != "l08_curr.go" {
+			t.Errorf("%s in %s comes through byCode", key[1], key[0])
+		}
+		if ast.IsExported(key[1]) {
+			exported++
+		}
+	}
+	if exported == 0 {
+		t.Error("no exported function reads byCode")
+	}
 }
