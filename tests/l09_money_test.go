@@ -823,6 +823,39 @@ func TestMoneyResultsAreTheirOwn(t *testing.T) {
 	}
 }
 
+// markedAmounts are amounts with marked ones behind the list and marked capacity behind each magnitude, beside the whole memory and what it held at first.
+type markedAmounts struct {
+	arg    []impl.Money
+	list   []impl.Money
+	first  []impl.Money
+	limbs  [][]int
+	before [][]int
+}
+
+func roomyAmounts(l []impl.Money) markedAmounts {
+	var a markedAmounts
+	for _, m := range append(slices.Clone(l), amount("XXX", minus(-77)), amount("EUR", plus(77))) {
+		roomy, memory := roomyMoney(m)
+		a.list, a.first = append(a.list, roomy), append(a.first, cloneMoney(m))
+		a.limbs, a.before = append(a.limbs, memory), append(a.before, slices.Clone(memory))
+	}
+	a.arg = a.list[:len(l)]
+	return a
+}
+
+func (a markedAmounts) changed() bool {
+	return !slices.EqualFunc(a.list, a.first, sameMoney) || !slices.EqualFunc(a.limbs, a.before, slices.Equal[[]int])
+}
+
+func (a markedAmounts) overwrite() {
+	for _, memory := range a.limbs {
+		overwrite(memory)
+	}
+	for i := range a.list {
+		a.list[i] = amount("ZZZ", minus(-88))
+	}
+}
+
 // MoneySum changes neither the elements, nor their magnitudes, nor what lies behind the slice.
 func TestMoneySumLeavesElements(t *testing.T) {
 	most := mostUnits()
@@ -831,23 +864,15 @@ func TestMoneySumLeavesElements(t *testing.T) {
 		{amount("USD", plus(5)), amount("EUR", plus(5))}, {amount("EUR", plus(5)), amount("EUR", plus(0)), amount("EUR", plus(7))}, {amount("EUR", plus(5)), amount("EUR", plus(6)), amount("CHF", plus(7))}, fewBadMoney(), inCurrency("EUR", fewUnits()...),
 	}
 	for _, l := range lists {
-		var memory, before []impl.Money
-		var limbs, limbsBefore [][]int
-		for _, m := range append(slices.Clone(l), amount("XXX", minus(-77)), amount("EUR", plus(77))) {
-			element, room := roomyMoney(m)
-			memory, before = append(memory, element), append(before, cloneMoney(m))
-			limbs, limbsBefore = append(limbs, room), append(limbsBefore, slices.Clone(room))
-		}
-		got, ok := impl.MoneySum("EUR", memory[:len(l)])
+		arg := roomyAmounts(l)
+		got, ok := impl.MoneySum("EUR", arg.arg)
 		want := cloneMoney(got)
 		overwrite(got.Units.Mag)
-		if !slices.EqualFunc(memory, before, sameMoney) || !slices.EqualFunc(limbs, limbsBefore, slices.Equal[[]int]) {
+		if arg.changed() {
 			t.Fatalf("MoneySum of %v changed its argument or shares its memory", l)
 		}
-		got, _ = impl.MoneySum("EUR", memory[:len(l)])
-		for _, room := range limbs {
-			overwrite(room)
-		}
+		got, _ = impl.MoneySum("EUR", arg.arg)
+		arg.overwrite()
 		checkMoney(t, got, ok, want, ok, "MoneySum, whose elements were overwritten,", l)
 	}
 }

@@ -511,16 +511,16 @@ func randomRates(r *rand.Rand) impl.Rates {
 	return k
 }
 
-func TestRateIsFoundLikeBig(t *testing.T) {
-	r := rand.New(rand.NewPCG(10, 12))
+// eachRandomPair tries the pairs of known and unknown currencies with random rates. The answers of RateHow, which try returns, all have to be frequent.
+func eachRandomPair(t *testing.T, seed uint64, try func(k impl.Rates, a string, b string) int) {
+	t.Helper()
+	r := rand.New(rand.NewPCG(seed, 12))
 	seen := map[int]int{}
 	for range 400 {
 		k := randomRates(r)
 		for _, a := range strings.Fields("EUR USD CHF JPY KWD GBP XXX") {
 			for _, b := range strings.Fields("EUR USD CHF JPY KWD GBP XXX") {
-				how, q := howFound(k, a, b)
-				seen[how]++
-				checkFound(t, k, a, b, how, q)
+				seen[try(k, a, b)]++
 			}
 		}
 	}
@@ -529,6 +529,14 @@ func TestRateIsFoundLikeBig(t *testing.T) {
 			t.Errorf("answer %d was wanted only %d times", how, seen[how])
 		}
 	}
+}
+
+func TestRateIsFoundLikeBig(t *testing.T) {
+	eachRandomPair(t, 10, func(k impl.Rates, a string, b string) int {
+		how, q := howFound(k, a, b)
+		checkFound(t, k, a, b, how, q)
+		return how
+	})
 }
 
 // extremeDecs are the smallest and the greatest rates, and those whose parts stay large in lowest terms.
