@@ -538,12 +538,7 @@ func roomy(a []int) ([]int, []int) {
 	return memory[:len(a)], memory
 }
 
-func overwrite(a []int) {
-	a = a[:cap(a)]
-	for i := range a {
-		a[i] = -88
-	}
-}
+func overwrite(a []int) { overwriteList(a, -88) }
 
 // Chapter 1: no function changes an argument or the capacity behind it, and a result shares no memory with an argument.
 func TestNatLeavesArguments(t *testing.T) {

@@ -3,7 +3,6 @@ package tests
 import (
 	"math"
 	"math/big"
-	"reflect"
 	"regexp"
 	"slices"
 	"strings"
@@ -630,6 +629,10 @@ func TestIntResultsAreTheirOwn(t *testing.T) {
 	}
 }
 
+func roomyInts(l []impl.Signed) marked[impl.Signed] {
+	return roomyList(l, []impl.Signed{minus(-77), plus(77), {Neg: true}}, roomySigned, sameSigned)
+}
+
 // IntSum changes neither the elements, nor their magnitudes, nor what lies behind the slice.
 func TestIntSumLeavesElements(t *testing.T) {
 	lists := [][]impl.Signed{
@@ -637,23 +640,15 @@ func TestIntSumLeavesElements(t *testing.T) {
 		{plus(sameLimbs(50, top)...), plus(1), minus(3)}, {{Neg: true}, plus(5)}, {plus(5), plus(0)}, limitInts(), badInts(),
 	}
 	for _, l := range lists {
-		var memory, before []impl.Signed
-		var limbs, limbsBefore [][]int
-		for _, x := range append(slices.Clone(l), minus(-77), plus(77), impl.Signed{Neg: true}) {
-			element, room := roomySigned(x)
-			memory, before = append(memory, element), append(before, cloneSigned(x))
-			limbs, limbsBefore = append(limbs, room), append(limbsBefore, slices.Clone(room))
-		}
-		got := impl.IntSum(memory[:len(l)])
+		elements := roomyInts(l)
+		got := impl.IntSum(elements.arg)
 		want := cloneSigned(got)
 		overwrite(got.Mag)
-		if !slices.EqualFunc(memory, before, sameSigned) || !reflect.DeepEqual(limbs, limbsBefore) {
+		if elements.changed() {
 			t.Fatalf("IntSum of %v changed its argument or shares its memory", l)
 		}
-		got = impl.IntSum(memory[:len(l)])
-		for _, room := range limbs {
-			overwrite(room)
-		}
+		got = impl.IntSum(elements.arg)
+		elements.overwrite(minus(-88))
 		if !sameSigned(got, want) {
 			t.Fatalf("IntSum of %v shares memory with its argument", l)
 		}

@@ -823,37 +823,8 @@ func TestMoneyResultsAreTheirOwn(t *testing.T) {
 	}
 }
 
-// markedAmounts are amounts with marked ones behind the list and marked capacity behind each magnitude, beside the whole memory and what it held at first.
-type markedAmounts struct {
-	arg    []impl.Money
-	list   []impl.Money
-	first  []impl.Money
-	limbs  [][]int
-	before [][]int
-}
-
-func roomyAmounts(l []impl.Money) markedAmounts {
-	var a markedAmounts
-	for _, m := range append(slices.Clone(l), amount("XXX", minus(-77)), amount("EUR", plus(77))) {
-		roomy, memory := roomyMoney(m)
-		a.list, a.first = append(a.list, roomy), append(a.first, cloneMoney(m))
-		a.limbs, a.before = append(a.limbs, memory), append(a.before, slices.Clone(memory))
-	}
-	a.arg = a.list[:len(l)]
-	return a
-}
-
-func (a markedAmounts) changed() bool {
-	return !slices.EqualFunc(a.list, a.first, sameMoney) || !slices.EqualFunc(a.limbs, a.before, slices.Equal[[]int])
-}
-
-func (a markedAmounts) overwrite() {
-	for _, memory := range a.limbs {
-		overwrite(memory)
-	}
-	for i := range a.list {
-		a.list[i] = amount("ZZZ", minus(-88))
-	}
+func roomyAmounts(l []impl.Money) marked[impl.Money] {
+	return roomyList(l, []impl.Money{amount("XXX", minus(-77)), amount("EUR", plus(77))}, roomyMoney, sameMoney)
 }
 
 // MoneySum changes neither the elements, nor their magnitudes, nor what lies behind the slice.
@@ -872,7 +843,7 @@ func TestMoneySumLeavesElements(t *testing.T) {
 			t.Fatalf("MoneySum of %v changed its argument or shares its memory", l)
 		}
 		got, _ = impl.MoneySum("EUR", arg.arg)
-		arg.overwrite()
+		arg.overwrite(amount("ZZZ", minus(-88)))
 		checkMoney(t, got, ok, want, ok, "MoneySum, whose elements were overwritten,", l)
 	}
 }

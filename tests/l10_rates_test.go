@@ -758,13 +758,10 @@ func TestTextRateEveryByte(t *testing.T) {
 	}
 }
 
-// markedRates are rates with marked rates behind the list and marked capacity behind each magnitude, beside the whole memory and what it held at first.
+// markedRates have the list of arg marked.
 type markedRates struct {
-	arg    impl.Rates
-	list   []impl.Rate
-	first  []impl.Rate
-	limbs  [][]int
-	before [][]int
+	marked[impl.Rate]
+	arg impl.Rates
 }
 
 func roomyRate(r impl.Rate) (impl.Rate, []int) {
@@ -773,18 +770,10 @@ func roomyRate(r impl.Rate) (impl.Rate, []int) {
 }
 
 func roomyRates(k impl.Rates) markedRates {
-	var m markedRates
-	for _, r := range append(slices.Clone(k.List), rate("XXX YYY -77"), impl.Rate{From: "EUR", To: "USD", R: decimal("77")}, impl.Rate{}) {
-		roomy, memory := roomyRate(r)
-		m.list, m.first = append(m.list, roomy), append(m.first, cloneRate(r))
-		m.limbs, m.before = append(m.limbs, memory), append(m.before, slices.Clone(memory))
-	}
-	m.arg = impl.Rates{Pivot: k.Pivot, List: m.list[:len(k.List)]}
+	behind := []impl.Rate{rate("XXX YYY -77"), {From: "EUR", To: "USD", R: decimal("77")}, {}}
+	m := markedRates{marked: roomyList(k.List, behind, roomyRate, sameRate)}
+	m.arg = impl.Rates{Pivot: k.Pivot, List: m.marked.arg}
 	return m
-}
-
-func (m markedRates) changed() bool {
-	return !slices.EqualFunc(m.list, m.first, sameRate) || !slices.EqualFunc(m.limbs, m.before, slices.Equal[[]int])
 }
 
 // overwriteRates writes over all that a result holds, and over the capacity behind it.
@@ -792,18 +781,10 @@ func overwriteRates(k impl.Rates) {
 	for _, r := range k.List {
 		overwrite(r.R.Num.Mag)
 	}
-	list := k.List[:cap(k.List)]
-	for i := range list {
-		list[i] = rate("ZZZ ZZZ -88")
-	}
+	overwriteList(k.List, rate("ZZZ ZZZ -88"))
 }
 
-func overwriteTexts(l []string) {
-	l = l[:cap(l)]
-	for i := range l {
-		l[i] = "ZZZ"
-	}
-}
+func overwriteTexts(l []string) { overwriteList(l, "ZZZ") }
 
 // memoryTables are of all kinds: empty, full, with and without the pair that is put, and not valid.
 func memoryTables() []impl.Rates {

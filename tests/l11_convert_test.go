@@ -154,16 +154,16 @@ func checkConversion(t *testing.T, k impl.Rates, l []impl.Money, to string, mode
 func checkUnitRate(t *testing.T, k impl.Rates, a string, b string, q *big.Rat) {
 	t.Helper()
 	got, ok := impl.UnitRate(k, a, b)
-	checkConvertedRat(t, got, ok, q, "UnitRate", k, a, b)
+	checkFraction(t, got, ok, q, "UnitRate", k, a, b)
 }
 
 func checkExact(t *testing.T, k impl.Rates, m impl.Money, to string, q *big.Rat) {
 	t.Helper()
 	got, ok := impl.Exact(k, m, to)
-	checkConvertedRat(t, got, ok, q, "Exact", k, m, to)
+	checkFraction(t, got, ok, q, "Exact", k, m, to)
 }
 
-func checkConvertedRat(t *testing.T, got impl.Rat, ok bool, q *big.Rat, call string, args ...any) {
+func checkFraction(t *testing.T, got impl.Rat, ok bool, q *big.Rat, call string, args ...any) {
 	t.Helper()
 	want, wantOk := impl.Rat{}, q != nil
 	if wantOk {
@@ -1007,7 +1007,7 @@ func TestConvertResultsAreApart(t *testing.T) {
 						}
 						later := call(table.arg, list.arg, to)
 						overwriteRates(impl.Rates{List: table.list})
-						list.overwrite()
+						list.overwrite(amount("ZZZ", minus(-88)))
 						parts[place] = want[place]
 						if !sameParts(parts, want) || !sameParts(later, want) {
 							t.Fatalf("%s of %v, %v, %s: overwriting part %d or an argument changed another part or result", name, k, l, to, place)
